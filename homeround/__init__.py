@@ -1,0 +1,1 @@
+"""Homeround: shortest rounds through all places."""

@@ -1,0 +1,113 @@
+"""Tables for the tests, and slow answers to check the program's by."""
+
+from itertools import permutations
+
+
+def numbers(seed):
+    """Yield the same whole numbers each time for a seed."""
+    state = seed * 7919 + 104729
+    while True:
+        state = (state * 6364136223846793005 + 1442695040888963407) % 2 ** 64
+        yield state >> 33
+
+
+def made(many, top, seed):
+    """A table with lengths from 0 to top, as a rule not even."""
+    source = numbers(seed)
+    return tuple(
+        tuple(0 if i == j else next(source) % (top + 1) for j in range(many))
+        for i in range(many)
+    )
+
+
+def made_even(many, top, seed):
+    table = made(many, top, seed)
+    return tuple(tuple(table[min(i, j)][max(i, j)] for j in range(many)) for i in range(many))
+
+
+def same_ways(many, way):
+    """A table with one length everywhere: all rounds are as short."""
+    return tuple(tuple(0 if i == j else way for j in range(many)) for i in range(many))
+
+
+def on_a_line(many, step=5):
+    """An even and straight table in which each detour is as long as the way itself."""
+    return tuple(tuple(abs(i - j) * step for j in range(many)) for i in range(many))
+
+
+def one_ring(many):
+    """A table with one shortest round alone, 0, 1, 2 ..: its ways have length 1, all others 3."""
+    return tuple(
+        tuple(0 if i == j else 1 if j == (i + 1) % many else 3 for j in range(many))
+        for i in range(many)
+    )
+
+
+def with_way(table, i, j, way):
+    rows = [list(row) for row in table]
+    rows[i][j] = way
+    return tuple(tuple(row) for row in rows)
+
+
+def sample_tables(most=8):
+    """Tables of one place to most places: even or not, with few or many rounds as short."""
+    found = []
+    for many in range(1, most + 1):
+        found += [same_ways(many, 0), same_ways(many, 4), same_ways(many, 10 ** 6), on_a_line(many), one_ring(many)]
+        for top in (1, 3, 20, 10 ** 6):
+            found += [made(many, top, many + top), made_even(many, top, many + top + 1)]
+    return found
+
+
+def all_rounds(many):
+    return [(0,) + rest for rest in permutations(range(1, many))]
+
+
+def round_length(table, round_):
+    total = 0
+    for at in range(len(round_)):
+        total += table[round_[at]][round_[(at + 1) % len(round_)]]
+    return total
+
+
+def walk_length(table, places):
+    return sum(table[places[at]][places[at + 1]] for at in range(len(places) - 1))
+
+
+def least_walk(table, one, other):
+    """The least length of all walks from one to other that come to no place twice."""
+    between = [place for place in range(len(table)) if place not in (one, other)]
+    return min(
+        walk_length(table, (one,) + middle + (other,))
+        for size in range(len(between) + 1)
+        for middle in permutations(between, size)
+    )
+
+
+def really_show(table, floors, number):
+    """Whether floors (all of them of the right form) show a number, word by word as the document says it."""
+    if not any(some == (0,) and last == 0 and m >= number for some, last, m in floors):
+        return False
+    for some, last, m in floors:
+        if m <= 0:
+            continue
+        outside = [k for k in range(len(table)) if k not in some]
+        if not outside and m > table[last][0]:
+            return False
+        for k in outside:
+            wider = tuple(sorted(some + (k,)))
+            carried = any(f[0] == wider and f[1] == k and f[2] >= m - table[last][k] for f in floors)
+            if m > table[last][k] and not carried:
+                return False
+    return True
+
+
+HUGE = 10 ** 39
+
+# Things that are neither a table, nor a round, nor a floor of any table.
+STRANGE = (
+    None, True, False, -1, 1, HUGE, -HUGE, "", "0", "((0,),)", (), [], [[0]], ((),), [()], ([0],), [(0,)],
+    (None,), (True,), (False,), ("",), ("0",), ((None,),), ((True,),), ((False,),), (("",),), (("0",),), (((0,),),),
+    ((((((((((0,),),),),),),),),),), [[[[[[[[[[0]]]]]]]]]], (0, None), (0, "1"), (0, [1]), (0, (1,)), (0, HUGE),
+    ((0, 1), None), (None, (1, 0)), ((0, 1), 5), ((0, 1), "10"), ((0, 1), [1, 0]), ["table"],
+)
