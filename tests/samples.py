@@ -1,6 +1,7 @@
 """Tables for the tests, and slow answers to check the program's by."""
 
-from itertools import permutations
+from functools import cache
+from itertools import combinations, permutations
 
 
 def numbers(seed):
@@ -57,6 +58,65 @@ def sample_tables(most=8):
         for top in (1, 3, 20, 10 ** 6):
             found += [made(many, top, many + top), made_even(many, top, many + top + 1)]
     return found
+
+
+def is_table_even(table):
+    return table == tuple(zip(*table))
+
+
+def even_tables(least=1, most=8):
+    """Even tables of least to most places: lengths small, alike, great, 0 among them."""
+    found = [table for table in sample_tables(most) if len(table) >= least and is_table_even(table)]
+    for many in range(least, most + 1):
+        for seed, top in enumerate((2, 2, 9, 9, 10 ** 6)):
+            found.append(made_even(many, top, 50 + seed))
+    return found
+
+
+def straightened(table):
+    """The table with the least lengths of walks."""
+    rows = [list(row) for row in table]
+    places = range(len(table))
+    for j in places:
+        for i in places:
+            for k in places:
+                rows[i][k] = min(rows[i][k], rows[i][j] + rows[j][k])
+    return tuple(tuple(row) for row in rows)
+
+
+def uneven_tables(most=8):
+    """Tables of two places or more in which one way back alone is of another length, by one."""
+    found = []
+    for many in range(2, most + 1):
+        for table in (same_ways(many, 4), made_even(many, 9, many), on_a_line(many)):
+            for i, j in ((0, 1), (1, 0), (many - 1, 0), (many - 2, many - 1)):
+                found.append(with_way(table, i, j, table[i][j] + 1))
+    return found
+
+
+@cache
+def all_nexts(many):
+    return [some for some in permutations(range(many)) if all(at != place for at, place in enumerate(some))]
+
+
+def all_ties(many):
+    return list(combinations(range(many), 2))
+
+
+def do_tie_together(places, ties):
+    """Whether each two of places hang together by ties."""
+    parts = {place: place for place in places}
+    for i, j in ties:
+        old, new = parts[i], parts[j]
+        parts = {place: new if part == old else part for place, part in parts.items()}
+    return len(set(parts.values())) <= 1
+
+
+@cache
+def all_trees(places):
+    """All trees of a tuple of places, as sorted lists of ties."""
+    ties = list(combinations(places, 2))
+    return [list(some) for some in combinations(ties, len(places) - 1) if do_tie_together(places, some)]
 
 
 def all_rounds(many):

@@ -3,11 +3,17 @@
 import unittest
 from copy import deepcopy
 
+from homeround.nexts import are_outs_ins, circles, nexts
 from homeround.shortest import do_show, how_many, shortest
 from homeround.tables import is_even, is_round, is_straight, is_table, length, shortened, walk
-from tests.samples import made, made_even, one_ring, same_ways
+from homeround.trees import is_least_tree, least_tree
+from tests.samples import is_table_even, made, made_even, on_a_line, one_ring, same_ways
 
-TABLES = [made(5, 9, 1), made_even(6, 9, 2), same_ways(4, 1), one_ring(7), ((0,),)]
+TABLES = [
+    made(5, 9, 1), made_even(6, 9, 2), same_ways(4, 1), one_ring(7), ((0,),), on_a_line(5), made_even(6, 10 ** 6, 3),
+    made_even(8, 20, 1), ((0, 3), (4, 0)), made_even(4, 2, 5), ((0, 3), (3, 0)),
+]
+EVEN = [table for table in TABLES if is_table_even(table)]
 
 
 def answers(table):
@@ -18,7 +24,19 @@ def answers(table):
     told += [shortened(table), how_many(table), shortest(table)]
     told += [walk(table, one, other) for one in range(many) for other in range(many) if one != other]
     told += [do_show(table, [((0,), 0, 0)], 0), do_show(table, shortest(table)[2], 1)]
+    if many > 1:
+        told += [nexts(table), are_outs_ins(table, (0,) * many, (0,) * many, 0), circles(nexts(table)[1])]
+    if table in EVEN:
+        told += [least_tree(table), is_least_tree(table, least_tree(table)[1]), is_least_tree(table, [(0, 1)])]
     return told
+
+
+def told_lists(table):
+    """All lists that are told of a table."""
+    found = [shortest(table)[2], circles(tuple(range(len(table)))[::-1])]
+    if table in EVEN:
+        found += [least_tree(table)[1]]
+    return found
 
 
 class Plain(unittest.TestCase):
@@ -30,15 +48,14 @@ class Plain(unittest.TestCase):
 
     def test_a_told_list_is_the_askers_own(self):
         for table in TABLES:
-            floors = shortest(table)[2]
-            kept = list(floors)
-            floors[0] = "changed"
-            floors.append(None)
-            again = shortest(table)[2]
-            self.assertEqual(again, kept)
-            self.assertIsNot(again, floors)
-            again.clear()
-            self.assertEqual(shortest(table)[2], kept)
+            kept = deepcopy(told_lists(table))
+            for change in (list.clear, list.reverse, lambda some: some.append(None), lambda some: some.insert(0, "x")):
+                for some in told_lists(table):
+                    change(some)
+                self.assertEqual(told_lists(table), kept)
+            for some, other in zip(told_lists(table), told_lists(table)):
+                self.assertIs(type(some), list)
+                self.assertIsNot(some, other)
 
     def test_a_list_handed_in_is_not_kept(self):
         table = TABLES[0]
@@ -50,13 +67,27 @@ class Plain(unittest.TestCase):
         self.assertIs(do_show(table, kept, least), True)
 
     def test_lists_handed_in_stay_as_they_were(self):
-        things = [[0, [1, (2, [3])]], [(0,), [0]], [[0, 1], [1, 0]]]
+        things = [[0, [1, (2, [3])]], [(0,), [0]], [[0, 1], [1, 0]], [(2, 3), (1, 2), (0, 1)], [(1, 2), [0, 1], None]]
         kept = deepcopy(things)
         for thing in things:
             is_table(thing)
             is_round(TABLES[0], thing)
             do_show(TABLES[0], thing, 0)
+            for table in EVEN:
+                is_least_tree(table, thing)
         self.assertEqual(things, kept)
+
+    def test_a_tree_handed_in_is_neither_changed_nor_kept(self):
+        for table in EVEN:
+            ties = least_tree(table)[1]
+            turned = ties[::-1]
+            for some in (ties, turned):
+                kept = list(some)
+                first = is_least_tree(table, some)
+                self.assertEqual(some, kept)
+                self.assertIs(is_least_tree(table, some), first)
+            ties.append((0, 1))
+            self.assertIs(is_least_tree(table, ties), False)
 
 
 if __name__ == "__main__":

@@ -1,0 +1,58 @@
+"""Stage 4: least trees."""
+
+from homeround.errors import NotEven
+from homeround.kinds import are_wholes
+from homeround.tables import is_even
+
+
+def least_tree(table):
+    """Tell (sum, ties): a tree with the least sum of lengths."""
+    if not is_even(table):
+        raise NotEven("trees are of even tables")
+    ties = []
+    inside = [0]
+    outside = list(range(1, len(table)))
+    while outside:
+        # Some least tree has the shortest way out of any part of it that hangs together.
+        way, one, other = min([(table[one][other], one, other) for one in inside for other in outside])
+        ties.append((min(one, other), max(one, other)))
+        inside.append(other)
+        outside.remove(other)
+    return tree_sum(table, ties), sorted(ties)
+
+
+def tree_sum(table, ties):
+    """Tell what the lengths of ties come to."""
+    return sum([table[i][j] for i, j in ties])
+
+
+def is_least_tree(table, ties):
+    """Tell of any list whether it is a least tree of the table."""
+    # Asked first, for an uneven table is refused whatever the list is.
+    least = least_tree(table)[0]
+    return is_tree(len(table), ties) and tree_sum(table, ties) == least
+
+
+def is_tree(many, ties):
+    """Tell of any list whether it is a tree of many places."""
+    if not all([is_tie(many, thing) for thing in ties]):
+        return False
+    return len(ties) == many - 1 and sorted(ties) == ties and do_hang_together(many, ties)
+
+
+def is_tie(many, thing):
+    """Tell of anything whether it is a tie of two of many places."""
+    return are_wholes(thing) and len(thing) == 2 and 0 <= thing[0] < thing[1] < many
+
+
+def do_hang_together(many, ties):
+    """Tell whether each of many places is come to from 0 along ties."""
+    reached = [0]
+    # As many steps as there are places come to each one that can be come to.
+    for step in range(many):
+        for i, j in ties:
+            if i in reached and j not in reached:
+                reached.append(j)
+            elif j in reached and i not in reached:
+                reached.append(i)
+    return len(reached) == many
