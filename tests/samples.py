@@ -84,6 +84,34 @@ def straightened(table):
     return tuple(tuple(row) for row in rows)
 
 
+def prism(within, across, far, order=(0, 1, 2, 3, 4, 5)):
+    """An even table of six places: two threes with ways within, a way across from each place, all others far.
+
+    Where across is shorter than within, and far long enough, the shares are halves within and wholes across, and no
+    round is of their worth.
+    """
+    rows = [[0] * 6 for place in order]
+    for i in range(6):
+        for j in range(6):
+            if i != j:
+                way = within if i // 3 == j // 3 else across if i % 3 == j % 3 else far
+                rows[order[i]][order[j]] = way
+    return tuple(tuple(row) for row in rows)
+
+
+def straight_tables(least=1, most=8):
+    """Even and straight tables of least to most places."""
+    found = [straightened(table) for table in even_tables(least, most)]
+    if least <= 6 <= most:
+        found += [prism(2, 1, 3), prism(5, 3, 8, (0, 2, 4, 1, 3, 5)), prism(3, 5, 8, (5, 2, 4, 1, 3, 0))]
+    for many in range(least, most + 1):
+        # On a ring a round is twice as long as a chain, and more than a tree by just one way.
+        found.append(tuple(
+            tuple(min((i - j) % many, (j - i) % many) * 3 for j in range(many)) for i in range(many)
+        ))
+    return found
+
+
 def uneven_tables(most=8):
     """Tables of two places or more in which one way back alone is of another length, by one."""
     found = []
@@ -117,6 +145,21 @@ def all_trees(places):
     """All trees of a tuple of places, as sorted lists of ties."""
     ties = list(combinations(places, 2))
     return [list(some) for some in combinations(ties, len(places) - 1) if do_tie_together(places, some)]
+
+
+def all_pairings(places):
+    """All pairings of a rising tuple of places, as sorted lists."""
+    if not places:
+        return [[]]
+    return [
+        [(places[0], other)] + rest
+        for other in places[1:]
+        for rest in all_pairings(tuple(place for place in places[1:] if place != other))
+    ]
+
+
+def shortest_length(table):
+    return min(round_length(table, round_) for round_ in all_rounds(len(table)))
 
 
 def all_rounds(many):

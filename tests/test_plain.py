@@ -3,17 +3,26 @@
 import unittest
 from copy import deepcopy
 
+from homeround.hung import hung
 from homeround.nexts import are_outs_ins, circles, nexts
+from homeround.puttings import cheapest, far, near, nearest, put_in
+from homeround.rounds import by_pairs, pairing, walked
+from homeround.shares import are_cuts, are_shares, best_prices, shares
 from homeround.shortest import do_show, how_many, shortest
 from homeround.tables import is_even, is_round, is_straight, is_table, length, shortened, walk
 from homeround.trees import is_least_tree, least_tree
-from tests.samples import is_table_even, made, made_even, on_a_line, one_ring, same_ways
+from tests.samples import is_table_even, made, made_even, on_a_line, one_ring, prism, same_ways, straightened
 
 TABLES = [
     made(5, 9, 1), made_even(6, 9, 2), same_ways(4, 1), one_ring(7), ((0,),), on_a_line(5), made_even(6, 10 ** 6, 3),
     made_even(8, 20, 1), ((0, 3), (4, 0)), made_even(4, 2, 5), ((0, 3), (3, 0)),
+    prism(3, 2, 40), straightened(made_even(6, 9, 4)), made_even(3, 9, 1),
 ]
 EVEN = [table for table in TABLES if is_table_even(table)]
+STRAIGHT = [table for table in EVEN if table == straightened(table) and len(table) > 1]
+HUNG = [table for table in EVEN if len(table) > 2]
+SHARED = [table for table in HUNG if len(table) < 7]
+PRICES = ((1, 2), (-3, 1), (0, 1), (7, 5), (9, 1), (-1, 7), (2, 3), (5, 1))
 
 
 def answers(table):
@@ -26,16 +35,40 @@ def answers(table):
     told += [do_show(table, [((0,), 0, 0)], 0), do_show(table, shortest(table)[2], 1)]
     if many > 1:
         told += [nexts(table), are_outs_ins(table, (0,) * many, (0,) * many, 0), circles(nexts(table)[1])]
-    if table in EVEN:
-        told += [least_tree(table), is_least_tree(table, least_tree(table)[1]), is_least_tree(table, [(0, 1)])]
+    told += [nearest(table), cheapest(table), near(table), far(table), put_in(table, round_)]
+    return told + (answers_of_even(table) if table in EVEN else [])
+
+
+def answers_of_even(table):
+    """All that is told of an even table alone."""
+    some = tuple(range(len(table) // 2 * 2))
+    ties = least_tree(table)[1]
+    told = [least_tree(table), is_least_tree(table, ties), is_least_tree(table, [(0, 1)])]
+    told += [walked(table, ties), pairing(table, some), pairing(table, ())]
+    if table in STRAIGHT:
+        told += [by_pairs(table)]
+    if table in HUNG:
+        told += [hung(table, PRICES[:len(table)])]
+    if table in SHARED:
+        worth, shared, cuts = shares(table)
+        told += [(worth, shared, cuts), best_prices(table)]
+        told += [are_shares(table, shared, worth), are_cuts(table, cuts, worth)]
+        told += [are_shares(table, [], worth), are_cuts(table, [], worth)]
     return told
 
 
 def told_lists(table):
     """All lists that are told of a table."""
-    found = [shortest(table)[2], circles(tuple(range(len(table)))[::-1])]
+    places = tuple(range(len(table)))
+    found = [shortest(table)[2], circles(places[::-1]), put_in(table, places)]
     if table in EVEN:
-        found += [least_tree(table)[1]]
+        found += [least_tree(table)[1], pairing(table, places[:2 * (len(places) // 2)])[1], pairing(table, ())[1]]
+    if table in STRAIGHT:
+        found += by_pairs(table)[1:]
+    if table in HUNG:
+        found += [hung(table, PRICES[:len(table)])[1]]
+    if table in SHARED:
+        found += shares(table)[1:]
     return found
 
 
@@ -75,11 +108,29 @@ class Plain(unittest.TestCase):
             do_show(TABLES[0], thing, 0)
             for table in EVEN:
                 is_least_tree(table, thing)
+            for table in SHARED:
+                are_shares(table, thing, (1, 1))
+                are_cuts(table, thing, (1, 1))
         self.assertEqual(things, kept)
+
+    def test_shares_handed_in_are_neither_changed_nor_kept(self):
+        for table in SHARED:
+            worth, shared, cuts = shares(table)
+            for ask, some in ((are_shares, shared), (are_cuts, cuts)):
+                for handed in (some, some[::-1], some[1:]):
+                    kept = list(handed)
+                    first = ask(table, handed, worth)
+                    self.assertEqual(handed, kept)
+                    self.assertIs(ask(table, handed, worth), first)
+                some.append(None)
+                self.assertIs(ask(table, some, worth), False)
 
     def test_a_tree_handed_in_is_neither_changed_nor_kept(self):
         for table in EVEN:
             ties = least_tree(table)[1]
+            kept = list(ties)
+            walked(table, ties)
+            self.assertEqual(ties, kept)
             turned = ties[::-1]
             for some in (ties, turned):
                 kept = list(some)

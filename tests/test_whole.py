@@ -1,0 +1,78 @@
+"""The whole [3]: how bounds, rounds and the shortest round stand to one another."""
+
+import unittest
+from fractions import Fraction
+
+from homeround.hung import hung
+from homeround.nexts import nexts
+from homeround.puttings import cheapest, far, near, nearest, put_in
+from homeround.rounds import by_pairs, walked
+from homeround.shares import best_prices, shares
+from homeround.shortest import do_show, shortest
+from homeround.tables import is_round, length
+from homeround.trees import least_tree
+from tests.samples import even_tables, is_table_even, made_even, prism, sample_tables, straight_tables, straightened
+
+PRICES = ((1, 2), (-3, 1), (0, 1), (7, 5), (10 ** 6, 1), (-1, 7), (2, 3), (5, 1))
+
+
+def fit_tables():
+    found = even_tables(3, 6) + straight_tables(3, 6) + [prism(3, 2, 40), prism(2, 1, 3)]
+    for many in range(3, 7):
+        for seed in range(10):
+            table = made_even(many, 30, seed)
+            found += [table, straightened(table)]
+    return found
+
+
+class Whole(unittest.TestCase):
+    def test_no_round_told_is_shorter_than_the_shortest(self):
+        for table in sample_tables() + straight_tables():
+            least, round_, floors = shortest(table)
+            self.assertIs(do_show(table, floors, least), True)
+            told = [round_, nearest(table), cheapest(table), near(table), far(table)]
+            told.append(put_in(table, tuple(range(len(table))))[-1])
+            if is_table_even(table):
+                told.append(walked(table, least_tree(table)[1]))
+            if table in straight_tables() and len(table) > 1:
+                told.append(by_pairs(table)[0])
+            for other in told:
+                self.assertIs(is_round(table, other), True)
+                self.assertGreaterEqual(length(table, other), least)
+
+    def test_no_round_is_shorter_than_a_bound(self):
+        for table in sample_tables() + straight_tables():
+            least = shortest(table)[0]
+            if len(table) > 1:
+                self.assertLessEqual(nexts(table)[0], least)
+            if len(table) > 2 and is_table_even(table):
+                self.assertLessEqual(Fraction(*hung(table, PRICES[:len(table)])[0]), least)
+                self.assertLessEqual(Fraction(*hung(table, PRICES[-len(table):])[0]), least)
+
+    def test_the_worth(self):
+        below = []
+        for table in fit_tables():
+            least = shortest(table)[0]
+            worth = Fraction(*shares(table)[0])
+            self.assertLessEqual(worth, least)
+            self.assertEqual(hung(table, best_prices(table))[0], shares(table)[0])
+            self.assertLessEqual(Fraction(*hung(table, PRICES[:len(table)])[0]), worth)
+            if len(table) <= 5:
+                self.assertEqual(worth, least)
+            elif worth < least:
+                below.append(table)
+        self.assertTrue(below)
+
+    def test_straight_tables(self):
+        for table in fit_tables():
+            if table == straightened(table):
+                least = shortest(table)[0]
+                worth = Fraction(*shares(table)[0])
+                self.assertLessEqual(2 * least, 3 * worth)
+                self.assertLessEqual(2 * length(table, by_pairs(table)[0]), 3 * worth)
+                for make in (cheapest, near):
+                    self.assertLessEqual(length(table, make(table)), 2 * least_tree(table)[0])
+
+
+if __name__ == "__main__":
+    unittest.main()
