@@ -120,8 +120,8 @@ def turn(rows, at, column, bottom):
     pivot = rows[at]
     for other in range(len(rows)):
         if other != at:
-            share = rows[other][column]
-            rows[other] = [(part * pivot[column] - share * own) // bottom for part, own in zip(rows[other], pivot)]
+            factor = rows[other][column]
+            rows[other] = [(part * pivot[column] - factor * own) // bottom for part, own in zip(rows[other], pivot)]
 
 
 def told_cuts(steps, rows, held, bottom):
