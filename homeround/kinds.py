@@ -1,4 +1,7 @@
-"""What things are, asked of anything: the helper that all stages share."""
+"""What all stages share: how far tables go, what things are, and how places hang together by ties."""
+
+MOST_PLACES = 8
+LONGEST_WAY = 1000000
 
 
 def is_whole(thing):
@@ -10,3 +13,32 @@ def is_whole(thing):
 def are_wholes(thing):
     """Tell whether a thing is a tuple of whole numbers alone."""
     return isinstance(thing, tuple) and all([is_whole(part) for part in thing])
+
+
+def is_tie(many, thing):
+    """Tell of anything whether it is a tie of two of many places."""
+    return are_wholes(thing) and len(thing) == 2 and 0 <= thing[0] < thing[1] < many
+
+
+def tied_to(ties, place):
+    """Tell the places tied to a place, the lesser ones first."""
+    return sorted([i + j - place for i, j in ties if place in (i, j)])
+
+
+def parts(places, ties):
+    """Tell the lists of places that hang together by those ties whose ends are both among the places."""
+    found = [[place] for place in places]
+    for i, j in ties:
+        tied = [part for part in found if i in part or j in part]
+        if i in places and j in places and len(tied) == 2:
+            found = [part for part in found if part not in tied] + [tied[0] + tied[1]]
+    return found
+
+
+def walked_from(ties, place, before):
+    """Tell the places of a tree that hang at a place, this first, but for what hangs at the one before it."""
+    found = [place]
+    for tied in tied_to(ties, place):
+        if tied != before:
+            found.extend(walked_from(ties, tied, place))
+    return found

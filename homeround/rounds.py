@@ -1,6 +1,7 @@
 """Stage 6: rounds by trees, and by trees with pairs of their odd places."""
 
 from homeround.errors import NotEven, NotStraight, TooFew
+from homeround.kinds import tied_to, walked_from
 from homeround.tables import is_even, is_straight
 from homeround.trees import least_tree
 
@@ -15,20 +16,6 @@ def walked(table, ties):
     """Tell the round of the places as a walk round a tree first comes to them."""
     refuse_uneven(table)
     return tuple(walked_from(ties, 0, None))
-
-
-def walked_from(ties, place, before):
-    """Tell the places that hang at a place, this first, but for what hangs at the one before it."""
-    found = [place]
-    for tied in tied_to(ties, place):
-        if tied != before:
-            found.extend(walked_from(ties, tied, place))
-    return found
-
-
-def tied_to(ties, place):
-    """Tell the places tied to a place, the lesser ones first."""
-    return sorted([i + j - place for i, j in ties if place in (i, j)])
 
 
 def pairing(table, some):

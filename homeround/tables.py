@@ -1,9 +1,6 @@
 """Stage 1: tables of ways, the rounds and the walks in them."""
 
-from homeround.kinds import are_wholes
-
-MOST_PLACES = 8
-LONGEST_WAY = 1000000
+from homeround.kinds import LONGEST_WAY, MOST_PLACES, are_wholes
 
 
 def is_table(thing):

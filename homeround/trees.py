@@ -1,7 +1,7 @@
 """Stage 4: least trees."""
 
 from homeround.errors import NotEven
-from homeround.kinds import are_wholes
+from homeround.kinds import is_tie, parts
 from homeround.tables import is_even
 
 
@@ -37,22 +37,6 @@ def is_tree(many, ties):
     """Tell of any list whether it is a tree of many places."""
     if not all([is_tie(many, thing) for thing in ties]):
         return False
-    return len(ties) == many - 1 and sorted(ties) == ties and do_hang_together(many, ties)
-
-
-def is_tie(many, thing):
-    """Tell of anything whether it is a tie of two of many places."""
-    return are_wholes(thing) and len(thing) == 2 and 0 <= thing[0] < thing[1] < many
-
-
-def do_hang_together(many, ties):
-    """Tell whether each of many places is come to from 0 along ties."""
-    reached = [0]
-    # As many steps as there are places come to each one that can be come to.
-    for step in range(many):
-        for i, j in ties:
-            if i in reached and j not in reached:
-                reached.append(j)
-            elif j in reached and i not in reached:
-                reached.append(i)
-    return len(reached) == many
+    if len(ties) != many - 1 or sorted(ties) != ties:
+        return False
+    return len(parts(list(range(many)), ties)) == 1

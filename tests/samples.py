@@ -1,5 +1,6 @@
 """Tables for the tests, and slow answers to check the program's by."""
 
+from fractions import Fraction
 from functools import cache
 from itertools import combinations, permutations
 
@@ -203,6 +204,105 @@ def really_show(table, floors, number):
             if m > table[last][k] and not carried:
                 return False
     return True
+
+
+def all_moves(round_):
+    """All rounds to which one move leads."""
+    found = set()
+    many = len(round_)
+    for start, stop in combinations(range(1, many + 1), 2):
+        places = list(round_)
+        places[start:stop] = places[start:stop][::-1]
+        found.add(tuple(places))
+    for size in (1, 2, 3):
+        for start in range(1, many - size + 1):
+            stretch = list(round_[start:start + size])
+            rest = [place for place in round_ if place not in stretch]
+            for at in range(len(rest)):
+                found.add(tuple(rest[:at + 1] + stretch + rest[at + 1:]))
+                found.add(tuple(rest[:at + 1] + stretch[::-1] + rest[at + 1:]))
+    return found - {round_}
+
+
+def both_ways(table, i, j, way):
+    return with_way(with_way(table, i, j, way), j, i, way)
+
+
+def with_one_otherwise(table, seed):
+    """Even tables in which one way is longer, and one shorter, by one, both ways."""
+    source = numbers(seed)
+    i, j = next(source) % len(table), next(source) % len(table)
+    if i == j:
+        return []
+    return [both_ways(table, i, j, way) for way in (table[i][j] + 1, table[i][j] - 1) if 0 <= way <= 10 ** 6]
+
+
+def split_table(many, weighed):
+    """The even table in which i and j are as far apart as all weights of those sets that have just one of both."""
+    return tuple(
+        tuple(sum(weight for some, weight in weighed if (i in some) != (j in some)) for j in range(many))
+        for i in range(many)
+    )
+
+
+def way_along(ties, one, other, before=None):
+    """The length of the way along ties (i, j, (top, bottom)) of a tree, or None where there is none."""
+    if one == other:
+        return Fraction(0)
+    for i, j, way in ties:
+        if one in (i, j) and i + j - one != before:
+            rest = way_along(ties, i + j - one, other, one)
+            if rest is not None:
+                return rest + Fraction(*way)
+    return None
+
+
+def grown_tree(many, inner, top, seed):
+    """A drawn tree of many places and as many inner ones, lengths in halves, all ways between the places whole."""
+    source = numbers(seed)
+    depth = {0: 0}
+    ties = []
+    order = list(range(many, many + inner)) + list(range(1, many))
+    for place in order:
+        over = sorted(depth)[next(source) % len(depth)]
+        way = next(source) % (top + 1)
+        if place < many and (depth[over] + way) % 2:
+            way += 1
+        depth[place] = depth[over] + way
+        half = Fraction(way, 2)
+        ties.append((min(over, place), max(over, place), (half.numerator, half.denominator)))
+    return tuple(sorted(ties))
+
+
+def tree_tables(least=1, most=8):
+    """Tables of grown trees, lengths 0 among them, with (many, drawn, table) each."""
+    found = []
+    for many in range(least, most + 1):
+        for seed in range(8):
+            inner = seed % (15 - many) if seed % 2 else 0
+            drawn = grown_tree(many, inner, (1, 5, 40, 90000)[seed % 4], 10 * many + seed)
+            table = tuple(tuple(int(way_along(drawn, i, j)) for j in range(many)) for i in range(many))
+            found.append((many, drawn, table))
+    return found
+
+
+def ring_tables(least=1, most=8):
+    """Pairs (table, order): tables that are ring tables by the order."""
+    found = []
+    for many in range(least, most + 1):
+        for seed in range(6):
+            source = numbers(100 * many + seed)
+            order = tuple(sorted(range(many), key=lambda place: next(source))) if seed else tuple(range(many))
+            arcs = [order[start:stop] for start in range(many) for stop in range(start + 1, many + 1)]
+            top = (2, 2, 9, 9, 1000, 25000)[seed]
+            found.append((split_table(many, [(arc, max(0, next(source) % (2 * top) - top)) for arc in arcs]), order))
+    return found
+
+
+def drawn_orders(many, how_many):
+    """Some orders of all places."""
+    source = numbers(many + 77)
+    return [tuple(sorted(range(many), key=lambda place: next(source))) for time in range(how_many)]
 
 
 HUGE = 10 ** 39

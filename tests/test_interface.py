@@ -25,6 +25,13 @@ INTERFACE = {
     "puttings": {
         "nearest": "table", "cheapest": "table", "near": "table", "far": "table", "put_in": "table order",
     },
+    "moves": {
+        "is_move": "one other", "is_settled": "table round_", "bettered": "table round_", "are_bettered": "table some",
+    },
+    "drawn": {
+        "is_drawn": "thing many", "table_of": "drawn many", "tree_or_four": "table", "tree_round": "table",
+    },
+    "rings": {"ring_or_four": "table order", "ring_order": "table"},
 }
 
 

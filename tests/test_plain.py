@@ -3,20 +3,26 @@
 import unittest
 from copy import deepcopy
 
+from homeround.drawn import is_drawn, table_of, tree_or_four, tree_round
 from homeround.hung import hung
+from homeround.moves import are_bettered, bettered, is_move, is_settled
 from homeround.nexts import are_outs_ins, circles, nexts
 from homeround.puttings import cheapest, far, near, nearest, put_in
+from homeround.rings import ring_or_four, ring_order
 from homeround.rounds import by_pairs, pairing, walked
 from homeround.shares import are_cuts, are_shares, best_prices, shares
 from homeround.shortest import do_show, how_many, shortest
 from homeround.tables import is_even, is_round, is_straight, is_table, length, shortened, walk
 from homeround.trees import is_least_tree, least_tree
-from tests.samples import is_table_even, made, made_even, on_a_line, one_ring, prism, same_ways, straightened
+from tests.samples import (
+    is_table_even, made, made_even, on_a_line, one_ring, prism, ring_tables, same_ways, straightened, tree_tables,
+)
 
 TABLES = [
     made(5, 9, 1), made_even(6, 9, 2), same_ways(4, 1), one_ring(7), ((0,),), on_a_line(5), made_even(6, 10 ** 6, 3),
     made_even(8, 20, 1), ((0, 3), (4, 0)), made_even(4, 2, 5), ((0, 3), (3, 0)),
-    prism(3, 2, 40), straightened(made_even(6, 9, 4)), made_even(3, 9, 1),
+    prism(3, 2, 40), straightened(made_even(6, 9, 4)), made_even(3, 9, 1), same_ways(8, 3), ring_tables(7)[2][0],
+    tree_tables(6)[3][2], tree_tables(8)[5][2],
 ]
 EVEN = [table for table in TABLES if is_table_even(table)]
 STRAIGHT = [table for table in EVEN if table == straightened(table) and len(table) > 1]
@@ -36,6 +42,8 @@ def answers(table):
     if many > 1:
         told += [nexts(table), are_outs_ins(table, (0,) * many, (0,) * many, 0), circles(nexts(table)[1])]
     told += [nearest(table), cheapest(table), near(table), far(table), put_in(table, round_)]
+    told += [is_settled(table, round_), bettered(table, round_), are_bettered(table, bettered(table, round_))]
+    told += [are_bettered(table, []), is_move(round_, nearest(table))]
     return told + (answers_of_even(table) if table in EVEN else [])
 
 
@@ -45,6 +53,12 @@ def answers_of_even(table):
     ties = least_tree(table)[1]
     told = [least_tree(table), is_least_tree(table, ties), is_least_tree(table, [(0, 1)])]
     told += [walked(table, ties), pairing(table, some), pairing(table, ())]
+    told += [tree_or_four(table), ring_or_four(table, tuple(range(len(table))))]
+    if tree_or_four(table)[0] == "tree":
+        drawn = tree_or_four(table)[1]
+        told += [tree_round(table), is_drawn(drawn, len(table)), table_of(drawn, len(table))]
+    if len(table) < 7:
+        told += [ring_order(table)]
     if table in STRAIGHT:
         told += [by_pairs(table)]
     if table in HUNG:
@@ -60,7 +74,7 @@ def answers_of_even(table):
 def told_lists(table):
     """All lists that are told of a table."""
     places = tuple(range(len(table)))
-    found = [shortest(table)[2], circles(places[::-1]), put_in(table, places)]
+    found = [shortest(table)[2], circles(places[::-1]), put_in(table, places), bettered(table, places)]
     if table in EVEN:
         found += [least_tree(table)[1], pairing(table, places[:2 * (len(places) // 2)])[1], pairing(table, ())[1]]
     if table in STRAIGHT:
@@ -106,6 +120,7 @@ class Plain(unittest.TestCase):
             is_table(thing)
             is_round(TABLES[0], thing)
             do_show(TABLES[0], thing, 0)
+            is_drawn(thing, 3)
             for table in EVEN:
                 is_least_tree(table, thing)
             for table in SHARED:
@@ -124,6 +139,16 @@ class Plain(unittest.TestCase):
                     self.assertIs(ask(table, handed, worth), first)
                 some.append(None)
                 self.assertIs(ask(table, some, worth), False)
+
+    def test_rounds_handed_in_are_neither_changed_nor_kept(self):
+        for table in TABLES:
+            some = bettered(table, tuple(range(len(table))))
+            for handed, expected in ((some, True), (some[::-1], len(some) == 1), (some[:-1], False)):
+                kept = list(handed)
+                self.assertIs(are_bettered(table, handed), expected)
+                self.assertEqual(handed, kept)
+            some.clear()
+            self.assertIs(are_bettered(table, some), False)
 
     def test_a_tree_handed_in_is_neither_changed_nor_kept(self):
         for table in EVEN:

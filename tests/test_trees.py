@@ -6,8 +6,8 @@ from copy import deepcopy
 from homeround.errors import NotEven
 from homeround.trees import is_least_tree, least_tree
 from tests.samples import (
-    HUGE, STRANGE, all_ties, all_trees, do_tie_together, even_tables, made_even, numbers, on_a_line, same_ways,
-    uneven_tables, with_way,
+    HUGE, STRANGE, all_ties, all_trees, both_ways, do_tie_together, even_tables, made_even, numbers, on_a_line,
+    same_ways, uneven_tables,
 )
 
 FOUR = ((0, 1, 4, 5), (1, 0, 2, 6), (4, 2, 0, 3), (5, 6, 3, 0))
@@ -20,10 +20,6 @@ def tree_length(table, ties):
 
 def least_of_all(table):
     return min(tree_length(table, ties) for ties in all_trees(tuple(range(len(table)))))
-
-
-def both_ways(table, i, j, way):
-    return with_way(with_way(table, i, j, way), j, i, way)
 
 
 def ties_between(ties, i, j):

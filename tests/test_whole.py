@@ -3,15 +3,21 @@
 import unittest
 from fractions import Fraction
 
+from homeround.drawn import tree_or_four, tree_round
 from homeround.hung import hung
+from homeround.moves import bettered, is_settled
 from homeround.nexts import nexts
 from homeround.puttings import cheapest, far, near, nearest, put_in
+from homeround.rings import ring_or_four, ring_order
 from homeround.rounds import by_pairs, walked
 from homeround.shares import best_prices, shares
 from homeround.shortest import do_show, shortest
 from homeround.tables import is_round, length
 from homeround.trees import least_tree
-from tests.samples import even_tables, is_table_even, made_even, prism, sample_tables, straight_tables, straightened
+from tests.samples import (
+    even_tables, is_table_even, made_even, prism, ring_tables, sample_tables, straight_tables, straightened,
+    tree_tables,
+)
 
 PRICES = ((1, 2), (-3, 1), (0, 1), (7, 5), (10 ** 6, 1), (-1, 7), (2, 3), (5, 1))
 
@@ -25,6 +31,12 @@ def fit_tables():
     return found
 
 
+def from_home(order):
+    """The round from 0 on along an order."""
+    at = order.index(0)
+    return order[at:] + order[:at]
+
+
 class Whole(unittest.TestCase):
     def test_no_round_told_is_shorter_than_the_shortest(self):
         for table in sample_tables() + straight_tables():
@@ -36,6 +48,8 @@ class Whole(unittest.TestCase):
                 told.append(walked(table, least_tree(table)[1]))
             if table in straight_tables() and len(table) > 1:
                 told.append(by_pairs(table)[0])
+            for other in list(told):
+                told.extend(bettered(table, other))
             for other in told:
                 self.assertIs(is_round(table, other), True)
                 self.assertGreaterEqual(length(table, other), least)
@@ -62,6 +76,29 @@ class Whole(unittest.TestCase):
             elif worth < least:
                 below.append(table)
         self.assertTrue(below)
+
+    def test_rounds_told_at_once(self):
+        found = set()
+        shaped = [table for many, drawn, table in tree_tables()] + [table for table, order in ring_tables()]
+        for table in even_tables() + straight_tables() + shaped:
+            least = shortest(table)[0]
+            order = tuple(range(len(table)))
+            told = []
+            if tree_or_four(table)[0] == "tree":
+                told.append(tree_round(table)[1])
+                self.assertEqual(tree_round(table)[0], least)
+                found.add("tree")
+            if ring_or_four(table, order) == ("ring",):
+                told.append(order)
+                found.add("ring")
+            if len(table) < 7 and ring_order(table) is not None:
+                told.append(from_home(ring_order(table)))
+                found.add("order")
+            for round_ in told:
+                self.assertIs(is_round(table, round_), True)
+                self.assertEqual(length(table, round_), least)
+                self.assertIs(is_settled(table, round_), True)
+        self.assertEqual(found, {"tree", "ring", "order"})
 
     def test_straight_tables(self):
         for table in fit_tables():
