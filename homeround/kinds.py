@@ -1,4 +1,4 @@
-"""What all stages share: how far tables go, what things are, and how places hang together by ties."""
+"""What all stages share: how far tables go, what things and words are, and how places hang together by ties."""
 
 MOST_PLACES = 8
 LONGEST_WAY = 1000000
@@ -29,8 +29,9 @@ def parts(places, ties):
     """Tell the lists of places that hang together by those ties whose ends are both among the places."""
     found = [[place] for place in places]
     for i, j in ties:
+        # An end that is not among the places stands in no part.
         tied = [part for part in found if i in part or j in part]
-        if i in places and j in places and len(tied) == 2:
+        if len(tied) == 2:
             found = [part for part in found if part not in tied] + [tied[0] + tied[1]]
     return found
 
@@ -42,3 +43,12 @@ def walked_from(ties, place, before):
         if tied != before:
             found.extend(walked_from(ties, tied, place))
     return found
+
+
+def number_in(word, most):
+    """Tell the whole number from 0 to most that a word writes by its figures, no 0 ahead, or None."""
+    # Words that are too long are no such numbers, whatever they write.
+    if len(word) > len(str(most)) or not word.isascii() or not word.isdigit():
+        return None
+    number = int(word)
+    return number if number <= most and str(number) == word else None

@@ -163,8 +163,9 @@ def shortest_length(table):
     return min(round_length(table, round_) for round_ in all_rounds(len(table)))
 
 
+@cache
 def all_rounds(many):
-    return [(0,) + rest for rest in permutations(range(1, many))]
+    return tuple((0,) + rest for rest in permutations(range(1, many)))
 
 
 def round_length(table, round_):
@@ -297,6 +298,73 @@ def ring_tables(least=1, most=8):
             top = (2, 2, 9, 9, 1000, 25000)[seed]
             found.append((split_table(many, [(arc, max(0, next(source) % (2 * top) - top)) for arc in arcs]), order))
     return found
+
+
+def falling_table(many, top, seed, even=False):
+    """A falling table: weights from 0 on are summed up, and rows and columns shifted so that own ways are 0."""
+    source = numbers(seed)
+    weights = [[max(0, next(source) % (2 * top + 1) - top) for q in range(many)] for p in range(many)]
+    if even:
+        weights = [[2 * weights[min(p, q)][max(p, q)] for q in range(many)] for p in range(many)]
+    sums = [
+        [sum(weights[p][q] for p in range(i + 1) for q in range(j + 1)) for j in range(many)] for i in range(many)
+    ]
+    shifts = [0]
+    for q in range(1, many):
+        own = weights[q][q]
+        share = own // 2 if even else next(source) % (own + 1)
+        shifts.append(shifts[-1] + sum(weights[p][q] for p in range(q)) + share)
+    return tuple(
+        tuple(sums[i][i] - sums[i][j] + shifts[j] - shifts[i] for j in range(many)) for i in range(many)
+    )
+
+
+def falling_tables(least=1, most=8):
+    """Falling tables of least to most places, even or not."""
+    found = []
+    for many in range(least, most + 1):
+        found += [on_a_line(many), same_ways(many, 0)]
+        for seed, top in enumerate((1, 2, 9, 300, 9000)):
+            found += [falling_table(many, top, 10 * many + seed, even) for even in (False, True)]
+    return found
+
+
+def tied_table(many, ties):
+    """The table of a web, 0 along its ties and 1 elsewhere."""
+    return tuple(
+        tuple(0 if i == j or (min(i, j), max(i, j)) in ties else 1 for j in range(many)) for i in range(many)
+    )
+
+
+def all_webs(many):
+    ties = all_ties(many)
+    return [(many, some) for size in range(len(ties) + 1) for some in combinations(ties, size)]
+
+
+def some_webs(many, how_many):
+    """Webs with few, half and many ties; a ring, a star, all ties, none."""
+    source = numbers(many + 31)
+    ties = all_ties(many)
+    found = [(many, ()), (many, tuple(ties)), (many, tuple((0, place) for place in range(1, many)))]
+    found.append((many, tuple((place, many - 1) for place in range(many - 1))))
+    found.append((many, tuple(tie for tie in ties if tie[1] - tie[0] in (1, many - 1))))
+    for time in range(how_many):
+        often = 2 + time % 7
+        found.append((many, tuple(tie for tie in ties if next(source) % 10 < often)))
+    return found
+
+
+def sample_webs():
+    """Webs of one place to eight: all of few places, some of more."""
+    found = [web for many in range(1, 5) for web in all_webs(many)]
+    return found + [web for many in range(5, 9) for web in some_webs(many, 40)]
+
+
+def web_rounds(web):
+    """All rounds of a web."""
+    many, ties = web
+    table = tied_table(many, ties)
+    return [round_ for round_ in all_rounds(many) if round_length(table, round_) == 0]
 
 
 def drawn_orders(many, how_many):

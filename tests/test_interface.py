@@ -32,6 +32,13 @@ INTERFACE = {
         "is_drawn": "thing many", "table_of": "drawn many", "tree_or_four": "table", "tree_round": "table",
     },
     "rings": {"ring_or_four": "table order", "ring_order": "table"},
+    "falling": {"pyramid": "table", "falling_or_four": "table"},
+    "webs": {
+        "is_web": "thing", "web_table": "web", "web_round": "web", "parting": "web", "closed": "web",
+        "pulled": "web steps round_",
+    },
+    "texts": {"show_table": "table", "read_table": "text"},
+    "desk": {"Desk": ""},
 }
 
 
@@ -44,6 +51,10 @@ class Interface(unittest.TestCase):
                     found = inspect.signature(getattr(module, name)).parameters
                     self.assertEqual(list(found), arguments.split())
                     self.assertTrue(all(one.default is one.empty for one in found.values()))
+
+    def test_a_desk_is_told_rows(self):
+        found = inspect.signature(import_module("homeround.desk").Desk().say).parameters
+        self.assertEqual(list(found), ["row"])
 
     def test_a_stage_draws_from_lower_ones_what_the_interface_names(self):
         stages = list(INTERFACE)

@@ -3,7 +3,10 @@
 import unittest
 from copy import deepcopy
 
+from homeround.desk import Desk
 from homeround.drawn import is_drawn, table_of, tree_or_four, tree_round
+from homeround.errors import NotEven, NotStraight, TooFew, TooMany
+from homeround.falling import falling_or_four, pyramid
 from homeround.hung import hung
 from homeround.moves import are_bettered, bettered, is_move, is_settled
 from homeround.nexts import are_outs_ins, circles, nexts
@@ -13,17 +16,21 @@ from homeround.rounds import by_pairs, pairing, walked
 from homeround.shares import are_cuts, are_shares, best_prices, shares
 from homeround.shortest import do_show, how_many, shortest
 from homeround.tables import is_even, is_round, is_straight, is_table, length, shortened, walk
+from homeround.texts import read_table, show_table
 from homeround.trees import is_least_tree, least_tree
+from homeround.webs import closed, is_web, parting, pulled, web_round, web_table
 from tests.samples import (
-    is_table_even, made, made_even, on_a_line, one_ring, prism, ring_tables, same_ways, straightened, tree_tables,
+    both_ways, falling_table, is_table_even, made, made_even, on_a_line, one_ring, prism, ring_tables, same_ways,
+    some_webs, straightened, tree_tables, with_way,
 )
 
 TABLES = [
     made(5, 9, 1), made_even(6, 9, 2), same_ways(4, 1), one_ring(7), ((0,),), on_a_line(5), made_even(6, 10 ** 6, 3),
     made_even(8, 20, 1), ((0, 3), (4, 0)), made_even(4, 2, 5), ((0, 3), (3, 0)),
     prism(3, 2, 40), straightened(made_even(6, 9, 4)), made_even(3, 9, 1), same_ways(8, 3), ring_tables(7)[2][0],
-    tree_tables(6)[3][2], tree_tables(8)[5][2],
+    tree_tables(6)[3][2], tree_tables(8)[5][2], falling_table(6, 9, 1), falling_table(5, 9, 2, True),
 ]
+WEBS = [web for many in range(1, 9) for web in some_webs(many, 6)]
 EVEN = [table for table in TABLES if is_table_even(table)]
 STRAIGHT = [table for table in EVEN if table == straightened(table) and len(table) > 1]
 HUNG = [table for table in EVEN if len(table) > 2]
@@ -44,7 +51,28 @@ def answers(table):
     told += [nearest(table), cheapest(table), near(table), far(table), put_in(table, round_)]
     told += [is_settled(table, round_), bettered(table, round_), are_bettered(table, bettered(table, round_))]
     told += [are_bettered(table, []), is_move(round_, nearest(table))]
+    told += [pyramid(table), falling_or_four(table), show_table(table), read_table(show_table(table))]
+    told += desk_answers(table)
     return told + (answers_of_even(table) if table in EVEN else [])
+
+
+def desk_answers(table):
+    """What a new desk answers of a table."""
+    desk = Desk()
+    rows = ["table " + show_table(table), "even", "straight", "shortest", "near", "pyramid", "round at once", "back"]
+    return [desk.say(row) for row in rows]
+
+
+def answers_of_web(web):
+    """All that is told of a web."""
+    told = [is_web(web), web_table(web), parting(web), closed(web)]
+    if web[0] > 2:
+        told.append(web_round(web))
+        last, steps = closed(web)
+        word, found = web_round(last)
+        if word == "round":
+            told += [pulled(web, steps, found), pulled(last, [], found)]
+    return told
 
 
 def answers_of_even(table):
@@ -93,6 +121,50 @@ class Plain(unittest.TestCase):
         self.assertEqual(again[::-1], first)
         self.assertEqual([answers(table) for table in TABLES], first)
 
+    def test_webs_asked_again_behind_others(self):
+        first = [deepcopy(answers_of_web(web)) for web in WEBS]
+        self.assertEqual([answers_of_web(web) for web in reversed(WEBS)][::-1], first)
+        self.assertEqual([answers_of_web(web) for web in WEBS], first)
+
+    def test_a_told_list_of_a_web_is_the_askers_own(self):
+        for web in WEBS:
+            kept = deepcopy(answers_of_web(web))
+            closed(web)[1].append(None)
+            closed(web)[1].clear()
+            if web[0] > 2 and web_round(web)[0] == "none":
+                web_round(web)[1].clear()
+                web_round(web)[1].append(None)
+            self.assertIsNot(closed(web)[1], closed(web)[1])
+            self.assertEqual(answers_of_web(web), kept)
+
+    def test_steps_handed_in_are_neither_changed_nor_kept(self):
+        for web in WEBS:
+            last, steps = closed(web)
+            if web[0] > 2 and web_round(last)[0] == "round":
+                kept = list(steps)
+                first = pulled(web, steps, web_round(last)[1])
+                self.assertEqual(steps, kept)
+                steps.clear()
+                self.assertEqual(pulled(web, kept, web_round(last)[1]), first)
+
+    def test_the_refusal_told_first_goes_first(self):
+        uneven = {many: with_way(same_ways(many, 5), 0, 1, 4) for many in range(2, 9)}
+        for many, table in uneven.items():
+            deeds = [
+                lambda: hung(table, PRICES[:many]), lambda: shares(table), lambda: best_prices(table),
+                lambda: are_shares(table, [], (1, 1)), lambda: are_cuts(table, [], (1, 1)), lambda: by_pairs(table),
+                lambda: tree_round(table), lambda: ring_order(table),
+            ]
+            for deed in deeds:
+                with self.assertRaises(NotEven):
+                    deed()
+        with self.assertRaises(NotStraight):
+            by_pairs(both_ways(on_a_line(4), 0, 3, 99))
+        with self.assertRaises(TooFew):
+            by_pairs(((0,),))
+        with self.assertRaises(TooMany):
+            shares(same_ways(7, 1))
+
     def test_a_told_list_is_the_askers_own(self):
         for table in TABLES:
             kept = deepcopy(told_lists(table))
@@ -121,6 +193,8 @@ class Plain(unittest.TestCase):
             is_round(TABLES[0], thing)
             do_show(TABLES[0], thing, 0)
             is_drawn(thing, 3)
+            is_web(thing)
+            is_web((3, thing))
             for table in EVEN:
                 is_least_tree(table, thing)
             for table in SHARED:

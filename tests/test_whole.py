@@ -3,7 +3,9 @@
 import unittest
 from fractions import Fraction
 
+from homeround.desk import Desk
 from homeround.drawn import tree_or_four, tree_round
+from homeround.falling import falling_or_four, pyramid
 from homeround.hung import hung
 from homeround.moves import bettered, is_settled
 from homeround.nexts import nexts
@@ -13,10 +15,12 @@ from homeround.rounds import by_pairs, walked
 from homeround.shares import best_prices, shares
 from homeround.shortest import do_show, shortest
 from homeround.tables import is_round, length
+from homeround.texts import show_table
 from homeround.trees import least_tree
+from homeround.webs import closed, parting, pulled, web_round, web_table
 from tests.samples import (
-    even_tables, is_table_even, made_even, prism, ring_tables, sample_tables, straight_tables, straightened,
-    tree_tables,
+    even_tables, falling_tables, is_table_even, made_even, prism, ring_tables, sample_tables, sample_webs,
+    straight_tables, straightened, tree_tables,
 )
 
 PRICES = ((1, 2), (-3, 1), (0, 1), (7, 5), (10 ** 6, 1), (-1, 7), (2, 3), (5, 1))
@@ -42,7 +46,7 @@ class Whole(unittest.TestCase):
         for table in sample_tables() + straight_tables():
             least, round_, floors = shortest(table)
             self.assertIs(do_show(table, floors, least), True)
-            told = [round_, nearest(table), cheapest(table), near(table), far(table)]
+            told = [round_, nearest(table), cheapest(table), near(table), far(table), pyramid(table)[1]]
             told.append(put_in(table, tuple(range(len(table))))[-1])
             if is_table_even(table):
                 told.append(walked(table, least_tree(table)[1]))
@@ -80,25 +84,57 @@ class Whole(unittest.TestCase):
     def test_rounds_told_at_once(self):
         found = set()
         shaped = [table for many, drawn, table in tree_tables()] + [table for table, order in ring_tables()]
-        for table in even_tables() + straight_tables() + shaped:
+        for table in even_tables() + straight_tables() + shaped + falling_tables():
             least = shortest(table)[0]
             order = tuple(range(len(table)))
             told = []
-            if tree_or_four(table)[0] == "tree":
+            if falling_or_four(table) == ("falling",):
+                told.append(pyramid(table)[1])
+                found.add("falling")
+            even = is_table_even(table)
+            if even and tree_or_four(table)[0] == "tree":
                 told.append(tree_round(table)[1])
                 self.assertEqual(tree_round(table)[0], least)
                 found.add("tree")
-            if ring_or_four(table, order) == ("ring",):
+            if even and ring_or_four(table, order) == ("ring",):
                 told.append(order)
                 found.add("ring")
-            if len(table) < 7 and ring_order(table) is not None:
+            if even and len(table) < 7 and ring_order(table) is not None:
                 told.append(from_home(ring_order(table)))
                 found.add("order")
             for round_ in told:
                 self.assertIs(is_round(table, round_), True)
                 self.assertEqual(length(table, round_), least)
                 self.assertIs(is_settled(table, round_), True)
-        self.assertEqual(found, {"tree", "ring", "order"})
+        self.assertEqual(found, {"tree", "ring", "order", "falling"})
+
+    def test_a_desk_tells_at_once_the_shortest(self):
+        words = set()
+        for table in sample_tables() + falling_tables() + [table for table, order in ring_tables()]:
+            desk = Desk()
+            desk.say("table " + show_table(table))
+            word, *number = desk.say("round at once").split(" ")
+            self.assertEqual(number, [] if word == "no" else [desk.say("shortest")])
+            words.add(word)
+        self.assertEqual(words, {"tree", "ring", "falling", "no"})
+
+    def test_webs(self):
+        words = set()
+        for web in sample_webs():
+            if web[0] > 2:
+                last, steps = closed(web)
+                word, found = web_round(web)
+                words.add(word)
+                self.assertEqual(web_round(last)[0], word)
+                if word == "round":
+                    self.assertIsNone(parting(web))
+                    for round_ in (found, pulled(web, steps, web_round(last)[1]), pulled(web, steps, found)):
+                        self.assertIs(is_round(web_table(web), round_), True)
+                        self.assertEqual(length(web_table(web), round_), 0)
+                else:
+                    self.assertIs(do_show(web_table(web), found, 1), True)
+                    self.assertGreater(shortest(web_table(web))[0], 0)
+        self.assertEqual(words, {"round", "none"})
 
     def test_straight_tables(self):
         for table in fit_tables():
