@@ -112,7 +112,7 @@ def draw(table):
 
 def hang(table, above, depths, place):
     """Hang the next place into a tree under 0: above has what each place hangs at, depths its way to 0, doubled."""
-    # Where the ways from 0 to place and to another part is halfway between whole numbers, so all is doubled.
+    # Two ways from 0 part at a whole number or halfway between two, so all depths are doubled.
     fork, spot = max([
         (table[0][place] + table[0][other] - table[other][place], other) for other in range(place)
     ])
